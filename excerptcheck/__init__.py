@@ -1,0 +1,1 @@
+"""Excerptcheck: are all excerpts of all documents allowed? With certificates."""

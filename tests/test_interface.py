@@ -1,0 +1,95 @@
+"""The names and arguments of the interface, and the layout that LANGUAGE.md asks for in L10 and L14 to L16."""
+
+import ast
+import importlib
+import inspect
+import pathlib
+import unittest
+
+PACKAGE = pathlib.Path(__file__).resolve().parent.parent / "excerptcheck"
+
+FUNCTIONS = {
+    "symbols": {
+        "symbols": "(letters, owners)",
+        "owner_symbols": "(letters, owners)",
+        "precedes": "(first, second, *, mirrored=False)",
+        "encoded": "(sequence)",
+        "decoded": "(text)",
+    },
+    "trees": {
+        "node_count": "(tree)",
+        "parts_of": "(tree)",
+        "mirrored": "(tree)",
+    },
+    "matching": {
+        "belongs": "(symbol, tree)",
+        "matches": "(tree, sequence)",
+    },
+}
+
+ERRORS = ["ExcerptError", "InvalidText", "InvalidPattern", "TooManyNodes", "InvalidPipeline", "TooComplex", "NotRead",
+          "TooLarge", "NoDocument", "NotOfKind", "Unknown", "TooMany", "FeeTooLow", "BreaksTerms", "Suspended",
+          "Finished"]
+
+
+class Interface(unittest.TestCase):
+    def test_functions_stand_in_their_own_files_with_their_arguments(self):
+        for module_name, functions in FUNCTIONS.items():
+            module = importlib.import_module("excerptcheck." + module_name)
+            for name, arguments in functions.items():
+                with self.subTest((module_name, name)):
+                    found = getattr(module, name)
+                    self.assertTrue(inspect.isfunction(found))
+                    self.assertEqual(found.__module__, module.__name__)
+                    self.assertEqual(str(inspect.signature(found)), arguments)
+
+    def test_errors_stand_in_their_own_file(self):
+        module = importlib.import_module("excerptcheck.errors")
+        for name in ERRORS:
+            with self.subTest(name):
+                self.assertEqual(getattr(module, name).__module__, "excerptcheck.errors")
+
+    def test_names_are_defined_by_def_and_class(self):
+        for module_name, functions in {**FUNCTIONS, "errors": ERRORS}.items():
+            tree = ast.parse((PACKAGE / (module_name + ".py")).read_text())
+            defined = {part.name for part in tree.body if isinstance(part, (ast.FunctionDef, ast.ClassDef))}
+            with self.subTest(module_name):
+                self.assertEqual(set(functions) - defined, set())
+
+
+class Layout(unittest.TestCase):
+    def files(self):
+        return sorted(PACKAGE.glob("**/*.py"))
+
+    def test_the_package_has_an_init(self):
+        self.assertTrue((PACKAGE / "__init__.py").is_file())
+
+    def test_lines_files_and_functions_are_short(self):
+        for path in self.files():
+            lines = path.read_text().split("\n")
+            with self.subTest(path.name):
+                self.assertLess(len(lines), 400)
+                self.assertLessEqual(max(map(len, lines)), 120)
+                for part in ast.walk(ast.parse(path.read_text())):
+                    if isinstance(part, (ast.FunctionDef, ast.Lambda)):
+                        self.assertLessEqual(part.end_lineno - part.lineno + 1, 40)
+
+    def test_only_plain_characters(self):
+        for path in self.files():
+            with self.subTest(path.name):
+                self.assertTrue(all(" " <= character <= "~" or character == "\n" for character in path.read_text()))
+
+    def test_imports_name_the_file_that_defines_the_name(self):
+        for path in self.files():
+            for part in ast.parse(path.read_text()).body:
+                if isinstance(part, ast.ImportFrom) and part.module.startswith("excerptcheck."):
+                    found = PACKAGE.parent / (part.module.replace(".", "/") + ".py")
+                    bound = ast.parse(found.read_text()).body
+                    names = {row.name for row in bound if isinstance(row, (ast.FunctionDef, ast.ClassDef))}
+                    names |= {row.targets[0].id for row in bound if isinstance(row, ast.Assign)}
+                    with self.subTest((path.name, part.module)):
+                        self.assertEqual({alias.name for alias in part.names} - names, set())
+
+
+if __name__ == "__main__":
+    unittest.main()
