@@ -25,6 +25,33 @@ FUNCTIONS = {
         "belongs": "(symbol, tree)",
         "matches": "(tree, sequence)",
     },
+    "acceptors": {
+        "states_along": "(acceptor, sequence)",
+        "accepts": "(acceptor, sequence)",
+        "first_sequences": "(acceptor)",
+        "minimal": "(acceptor)",
+        "first_accepted": "(acceptor)",
+        "parting": "(first, second)",
+    },
+    "machines": {
+        "machine": "(reads, tree)",
+        "complexity": "(reads, tree)",
+        "alike": "(reads, first, second)",
+    },
+    "twoway": {
+        "run": "(machine, sequence)",
+        "left_states": "(machine, sequence)",
+        "right_states": "(machine, sequence)",
+        "identity": "(reads)",
+    },
+    "least": {
+        "least_form": "(machine)",
+        "restricted": "(machine, reads)",
+        "parting_sequence": "(first, second)",
+    },
+    "composing": {
+        "composed": "(first, second)",
+    },
 }
 
 ERRORS = ["ExcerptError", "InvalidText", "InvalidPattern", "TooManyNodes", "InvalidPipeline", "TooComplex", "NotRead",

@@ -35,8 +35,9 @@ class Alphabets(unittest.TestCase):
     def test_the_least_and_the_largest_alphabet(self):
         self.assertEqual(symbols("z", "Z"), ("@z", "Zz"))
         self.assertEqual(owner_symbols("z", "Z"), ("Zz",))
-        self.assertEqual(symbols("abc", "ABC"), ("@a", "@b", "@c", "Aa", "Ab", "Ac", "Ba", "Bb", "Bc", "Ca", "Cb", "Cc"))
-        self.assertEqual(owner_symbols("abc", "ABC"), ("Aa", "Ab", "Ac", "Ba", "Bb", "Bc", "Ca", "Cb", "Cc"))
+        of_owners = ("Aa", "Ab", "Ac", "Ba", "Bb", "Bc", "Ca", "Cb", "Cc")
+        self.assertEqual(symbols("abc", "ABC"), ("@a", "@b", "@c") + of_owners)
+        self.assertEqual(owner_symbols("abc", "ABC"), of_owners)
 
     def test_editor_symbols_precede_those_of_the_owners(self):
         self.assertTrue(precedes(("@z",), ("Aa",)))
