@@ -18,8 +18,19 @@ def _lists(characters, character):
 
 def matches(tree, sequence):
     """True if a sequence matches a pattern."""
+    return beginnings_that_match(tree, sequence)[-1]
+
+
+def beginnings_that_match(tree, sequence):
+    """For each number of symbols, from 0 on, whether so many of the first symbols match a pattern."""
+    ends = _ends(tree, sequence)[0]
+    return [(ends >> many) & 1 == 1 for many in range(len(sequence) + 1)]
+
+
+def ends_that_match(tree, sequence):
+    """For each place, the one behind the last symbol included, whether the symbols from there on match a pattern."""
     many = len(sequence)
-    return (_ends(tree, sequence)[0] >> many) & 1 == 1
+    return [(ends >> many) & 1 == 1 for ends in _ends(tree, sequence)]
 
 
 def _ends(tree, sequence):
@@ -35,7 +46,7 @@ def _ends(tree, sequence):
         return _repeated_ends(first)
     second = _ends(tree[2], sequence)
     if name == "then":
-        return [_reached_ends(ends, second) for ends in first]
+        return _joined_ends(first, second)
     if name == "or":
         return [ends | others for ends, others in zip(first, second)]
     return [ends & others for ends, others in zip(first, second)]
@@ -53,13 +64,37 @@ def _other_ends(ends):
     return [(every >> place << place) & ~found for place, found in enumerate(ends)]
 
 
+def _joined_ends(first, second):
+    found = []
+    known = reached = 0
+    for ends in reversed(first):
+        reached = _reached_further(ends, known, reached, second)
+        known = ends
+        found.append(reached)
+    return found[::-1]
+
+
 def _repeated_ends(ends):
     repeated = [0] * len(ends)
+    known = reached = 0
     for place in range(len(ends) - 1, -1, -1):
         here = 1 << place
         # A turn that takes no symbol changes nothing and would ask for what is just being found.
-        repeated[place] = here | _reached_ends(ends[place] & ~here, repeated)
+        turns = ends[place] & ~here
+        reached = _reached_further(turns, known, reached, repeated)
+        known = turns
+        repeated[place] = here | reached
     return repeated
+
+
+def _reached_further(ends, known, reached, further):
+    """The ends that are reached from `ends`; those that are reached from `known` are `reached`.
+
+    The ends from neighbouring places are often nearly the same, so only the new ones are followed.
+    """
+    if known & ~ends:
+        return _reached_ends(ends, further)
+    return reached | _reached_ends(ends & ~known, further)
 
 
 def _reached_ends(ends, further):

@@ -1,11 +1,11 @@
-"""Acceptors and two-way machines, word by word as the document says them, and random ones to compare with.
+"""Acceptors, two-way machines, stages and graphs, word by word as the document says them, and random ones.
 
 Nothing here uses the program.
 """
 
 import itertools
 
-from samples import sequences
+from samples import fits, members, sequences
 
 SEVERAL = ("@a", "@b", "@c", "Aa", "Ab", "Ac", "Ba", "Bb", "Bc", "Ca", "Cb", "Cc")
 
@@ -186,3 +186,62 @@ def twins(first_length, second_length):
             old, new = groups[at + step], groups[at]
             groups = [new if group == old else group for group in groups]
     return [group == groups[0] for group in groups]
+
+
+def applying_rule(stage, sequence, place):
+    """The number of the first rule that applies to the symbol at a place, None if none applies."""
+    for number, (before, target, after, _) in enumerate(stage):
+        if (fits(before, sequence[:place]) and sequence[place] in members(target)
+                and fits(after, sequence[place + 1:])):
+            return number
+    return None
+
+
+def stage_told(stage, sequence):
+    """What a stage puts out, as pairs of a symbol and a position."""
+    found = []
+    for place, symbol in enumerate(sequence):
+        number = applying_rule(stage, sequence, place)
+        if number is not None:
+            found += [(symbol if sign == "$" else "@" + sign, place) for sign in stage[number][3]]
+    return tuple(found)
+
+
+def excerpt_told(pipeline, document):
+    """The excerpt of a document, stage after stage."""
+    pairs = tuple((symbol, place) for place, symbol in enumerate(document))
+    for stage in pipeline:
+        told = stage_told(stage, tuple(symbol for symbol, _ in pairs))
+        pairs = tuple((symbol, pairs[place][1]) for symbol, place in told)
+    return pairs
+
+
+def graph_told(acceptor, machine, most):
+    """The graph by its definition, as far as sequences of at most `most` symbols tell."""
+    reads, left, right, outputs = machine
+    heads = {(state_after((reads, left, ()), head), state_after(acceptor, head)): head
+             for head in reversed(sequences(reads, most))}
+    tails = {}
+    for tail in sequences(reads, most):
+        tails.setdefault(state_after((reads, right, ()), tail[::-1]), []).append(tail)
+    points = sorted({(before, state, behind) for (before, state), head in heads.items() for behind in tails
+                     if any(takes(acceptor, head + tail) for tail in tails[behind])})
+    edges = []
+    for source, (before, state, behind) in enumerate(points):
+        for index, symbol in enumerate(reads):
+            for target, (after, following, later) in enumerate(points):
+                if (after == left[before][index] and following == acceptor[1][state][index]
+                        and behind == right[later][index]):
+                    edges.append((source, symbol, target, outputs[before][index][later]))
+    starts = tuple(at for at, point in enumerate(points) if point[:2] == (0, 0))
+    ends = tuple(at for at, point in enumerate(points) if point[2] == 0 and point[1] in acceptor[2])
+    return (tuple(points), starts, ends, tuple(edges))
+
+
+def complete_paths(starts, ends, edges, sequence):
+    """All complete paths that read a sequence, as tuples of indices of edges."""
+    paths = [(start, ()) for start in starts]
+    for symbol in sequence:
+        paths = [(edge[2], path + (index,)) for point, path in paths for index, edge in enumerate(edges)
+                 if edge[0] == point and edge[1] == symbol]
+    return [path for point, path in paths if point in ends]

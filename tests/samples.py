@@ -53,6 +53,9 @@ def _folded(name, trees):
 
 
 ALL = star(ANY)
+# The values of [3] in the document.
+EVERYTHING = ("a", "AB", ALL)
+PIPELINE = (((ALL, of("A"), then(of("B"), ALL), "$"), (ALL, of("B"), ALL, "$")),)
 
 
 def sequences(reads, most):
@@ -127,3 +130,15 @@ def has_flags(value):
     if value.__class__ is tuple:
         return any(has_flags(part) for part in value)
     return value is True or value is False
+
+
+def random_stage(dice, nodes, holders="@AB", letters="ab", outputs=("$", "$", "$$", "a$", "$b", "b", "", "a$b")):
+    """A stage whose patterns have at most so many nodes."""
+    return tuple((random_tree(dice, dice.randint(1, nodes), holders, letters),
+                  ("class", dice.random() < 0.25, random_part(dice, holders), random_part(dice, letters)),
+                  random_tree(dice, dice.randint(1, nodes), holders, letters),
+                  dice.choice(outputs)) for _ in range(dice.randint(1, 3)))
+
+
+def random_pipeline(dice, nodes, holders="@AB", letters="ab"):
+    return tuple(random_stage(dice, nodes, holders, letters) for _ in range(dice.randint(1, 3)))

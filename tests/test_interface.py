@@ -52,6 +52,34 @@ FUNCTIONS = {
     "composing": {
         "composed": "(first, second)",
     },
+    "pipelines": {
+        "stage_output": "(stage, sequence)",
+        "excerpt": "(pipeline, document)",
+        "trace": "(pipeline, document)",
+        "blocks": "(letters, owners, pipeline)",
+    },
+    "cascades": {
+        "stage_machine": "(reads, stage)",
+        "pipeline_machine": "(letters, owners, pipeline)",
+    },
+    "kinds": {
+        "kind_machine": "(kind)",
+        "of_kind": "(kind, sequence)",
+    },
+    "counting": {
+        "documents": "(kind, *, most)",
+        "first_document": "(kind)",
+        "next_document": "(kind, document, *, most)",
+        "many": "(kind, length)",
+        "document_at": "(kind, length, index)",
+        "index_of": "(kind, document)",
+    },
+    "graphs": {
+        "graph_of": "(acceptor, machine)",
+        "graph": "(kind, pipeline)",
+        "edges_along": "(graph, sequence)",
+        "lengths": "(graph, *, most)",
+    },
 }
 
 ERRORS = ["ExcerptError", "InvalidText", "InvalidPattern", "TooManyNodes", "InvalidPipeline", "TooComplex", "NotRead",
