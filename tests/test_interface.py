@@ -80,6 +80,26 @@ FUNCTIONS = {
         "edges_along": "(graph, sequence)",
         "lengths": "(graph, *, most)",
     },
+    "nets": {
+        "net_of": "(graph)",
+        "useful": "(net)",
+        "potentials": "(net, weights)",
+        "defect": "(net, weights, bound, integers)",
+        "first_above": "(net, weights, bound, *, most)",
+        "greatest_weight": "(net, weights)",
+    },
+    "ratios": {
+        "greatest_ratio": "(net, chosen, sizes)",
+    },
+    "spreads": {
+        "spread": "(graph, acceptor)",
+        "spread_defect": "(graph, acceptor, lists)",
+        "first_refused": "(graph, acceptor, *, most)",
+    },
+    "policies": {
+        "complies": "(policy, sequence)",
+        "weight": "(policy, output)",
+    },
 }
 
 ERRORS = ["ExcerptError", "InvalidText", "InvalidPattern", "TooManyNodes", "InvalidPipeline", "TooComplex", "NotRead",
