@@ -18,6 +18,14 @@ def accepts(acceptor, sequence):
     return states_along(acceptor, sequence)[-1] in acceptor[2]
 
 
+def state_behind(acceptor, state, sequence):
+    """The state to which a state leads by a sequence."""
+    reads, rows, _ = acceptor
+    for symbol in sequence:
+        state = rows[state][reads.index(symbol)]
+    return state
+
+
 def first_sequences(acceptor):
     """The first sequence of each state, None for a state to which no sequence leads."""
     reads, rows, _ = acceptor

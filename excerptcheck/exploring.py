@@ -42,3 +42,12 @@ def first_sequence(reads, steps, state):
         state, index = steps[state]
         found.append(reads[index])
     return tuple(found[::-1])
+
+
+def sources_of(rows):
+    """For each index of a symbol and each state, the states that lead to it by this symbol."""
+    found = [[[] for _ in rows] for _ in rows[0]]
+    for state, row in enumerate(rows):
+        for index, after in enumerate(row):
+            found[index][after].append(state)
+    return found

@@ -2,7 +2,7 @@
 
 from excerptcheck.cascades import pipeline_machine
 from excerptcheck.errors import TooLarge
-from excerptcheck.exploring import explored
+from excerptcheck.exploring import explored, sources_of
 from excerptcheck.kinds import kind_machine
 
 MOST_POINTS = 200
@@ -12,7 +12,7 @@ MOST_EDGES = 2000
 def graph_of(acceptor, machine):
     """The graph of an acceptor and a two-way machine that read the same symbols."""
     befores = explored((0, 0), lambda pair: list(zip(machine[1][pair[0]], acceptor[1][pair[1]])))[0]
-    behinds = _right_states(acceptor, machine)
+    behinds = rights_behind(acceptor, machine)
     if sum([len(behinds[state]) for _, state in befores]) > MOST_POINTS:
         raise TooLarge(None)
     points = sorted([(left, state, right) for left, state in befores for right in behinds[state]])
@@ -61,26 +61,21 @@ def lengths(graph, *, most):
     return tuple(found)
 
 
-def _right_states(acceptor, machine):
-    """For each state, the right states of the sequences that lead from it to an accepting state."""
+def rights_behind(acceptor, machine):
+    """For each state, the ascending list of the right states of the sequences that lead from it to an accepting one."""
     _, rows, accepting = acceptor
-    right = machine[2]
-    before = [[[] for _ in rows] for index in range(len(acceptor[0]))]
-    for state, row in enumerate(rows):
-        for index, after in enumerate(row):
-            before[index][after].append(state)
+    sources = sources_of(rows)
     met = {(state, 0): True for state in accepting}
-    pairs = list(met)
-    while pairs:
-        state, behind = pairs.pop()
-        for index in range(len(acceptor[0])):
-            for earlier in before[index][state]:
-                pair = (earlier, right[behind][index])
-                if pair not in met:
-                    met[pair] = True
-                    pairs.append(pair)
+    waiting = list(met)
+    while waiting:
+        state, behind = waiting.pop()
+        for index, before in enumerate(machine[2][behind]):
+            for earlier in sources[index][state]:
+                if (earlier, before) not in met:
+                    met[(earlier, before)] = True
+                    waiting.append((earlier, before))
     found = [[] for _ in rows]
-    for state, behind in met:
+    for state, behind in sorted(met):
         found[state].append(behind)
     return found
 

@@ -7,8 +7,12 @@ def complies(policy, sequence):
     """True if an excerpt with these symbols complies with a policy."""
     if policy[0] == "matches":
         return matches(policy[1], sequence)
-    bound = 0 if policy[0] == "share" else policy[2]
-    return weight(policy, sequence) <= bound
+    return weight(policy, sequence) <= bound_of(policy)
+
+
+def bound_of(policy):
+    """The bound that no weight of an excerpt exceeds that complies with a share or a sum."""
+    return 0 if policy[0] == "share" else policy[2]
 
 
 def weight(policy, output):

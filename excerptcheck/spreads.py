@@ -1,5 +1,6 @@
 """Which states of an acceptor the outputs along the paths of a graph lead to."""
 
+from excerptcheck.acceptors import state_behind
 from excerptcheck.searching import first_read
 
 
@@ -31,7 +32,7 @@ def spread_defect(graph, acceptor, lists):
         if not all([state in acceptor[2] for state in lists[point]]):
             return "end", point
     for index, (source, _, target, output) in enumerate(edges):
-        if not all([_state_after(acceptor, state, output) in lists[target] for state in lists[source]]):
+        if not all([state_behind(acceptor, state, output) in lists[target] for state in lists[source]]):
             return "edge", index
     return None
 
@@ -52,15 +53,7 @@ def _steps(graph, acceptor):
         leaving[edge[0]].append(edge)
 
     def steps_of(pair):
-        return [(symbol, (target, _state_after(acceptor, pair[1], output)))
+        return [(symbol, (target, state_behind(acceptor, pair[1], output)))
                 for _, symbol, target, output in leaving[pair[0]]]
 
     return steps_of
-
-
-def _state_after(acceptor, state, output):
-    """The state to which a state leads by an output."""
-    reads, rows, _ = acceptor
-    for symbol in output:
-        state = rows[state][reads.index(symbol)]
-    return state

@@ -3,8 +3,7 @@
 
 def run(machine, sequence):
     """The pairs of a symbol that is put out and the position for which it is put out."""
-    outputs = outputs_along(machine, sequence)
-    return tuple([(symbol, origin) for origin, output in enumerate(outputs) for symbol in output])
+    return paired(outputs_along(machine, sequence))
 
 
 def left_states(machine, sequence):
@@ -21,6 +20,11 @@ def identity(reads):
     """The least form of the machine that puts out every symbol itself, and nothing else."""
     stay = ((0,) * len(reads),)
     return reads, stay, stay, (tuple([((symbol,),) for symbol in reads]),)
+
+
+def paired(outputs):
+    """The pairs of a symbol of the outputs and the position of its output."""
+    return tuple([(symbol, origin) for origin, output in enumerate(outputs) for symbol in output])
 
 
 def lefts_from(machine, state, sequence):
