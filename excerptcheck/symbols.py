@@ -48,10 +48,10 @@ def decoded(text):
     # A holder can follow only where the one before has a letter already.
     complete = True
     for place, character in enumerate(text):
-        if _is_letter(character) and holder != "":
+        if is_letter(character) and holder != "":
             found.append(holder + character)
             complete = True
-        elif _is_holder(character) and complete:
+        elif is_holder(character) and complete:
             holder = character
             complete = False
         else:
@@ -61,9 +61,11 @@ def decoded(text):
     return tuple(found)
 
 
-def _is_letter(character):
+def is_letter(character):
+    """True for a to z."""
     return "a" <= character <= "z"
 
 
-def _is_holder(character):
+def is_holder(character):
+    """True for the editor and for A to Z."""
     return character == EDITOR or "A" <= character <= "Z"

@@ -10,7 +10,14 @@ def operands_of(tree):
 
 def node_count(tree):
     """The number of nodes of a pattern."""
-    return 1 + sum([node_count(operand) for operand in operands_of(tree)])
+    # The trees of texts can be deep before they are known to have too many nodes, so nothing calls itself here.
+    count = 0
+    waiting = [tree]
+    while waiting:
+        node = waiting.pop()
+        waiting.extend(operands_of(node))
+        count += 1
+    return count
 
 
 def parts_of(tree):

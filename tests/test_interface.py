@@ -100,6 +100,69 @@ FUNCTIONS = {
         "complies": "(policy, sequence)",
         "weight": "(policy, output)",
     },
+    "deciding": {
+        "decide": "(kind, pipeline, policy)",
+        "check_certificate": "(kind, pipeline, policy, certificate)",
+    },
+    "shares": {
+        "greatest_share": "(kind, pipeline, holders)",
+        "greatest_sum": "(kind, pipeline, prices)",
+        "holders_of": "(kind, pipeline)",
+    },
+    "allowed": {
+        "allowed": "(kind, pipeline, tree)",
+        "first_source": "(kind, pipeline, sequence)",
+    },
+    "differences": {
+        "difference": "(kind, first, second)",
+    },
+    "streams": {
+        "certain": "(acceptor, machine, sequence)",
+    },
+    "discretion": {
+        "alike_but_for": "(owner, first, second)",
+        "indiscretion": "(acceptor, machine, owner)",
+    },
+    "journal": {
+        "replayed": "(letters, rates, log)",
+    },
+    "reader": {
+        "read_pattern": "(text)",
+        "read_pipeline": "(texts)",
+    },
+    "printer": {
+        "show_pattern": "(tree)",
+        "show_pipeline": "(pipeline)",
+    },
+}
+
+# For each class its methods, None for a property.
+CLASSES = {
+    ("streams", "Stream"): {
+        "__init__": "(self, acceptor, machine)",
+        "feed": "(self, symbol)",
+        "finish": "(self)",
+        "given": None,
+        "told": None,
+        "possible": None,
+        "__len__": "(self)",
+        "__iter__": "(self)",
+    },
+    ("house", "Clearinghouse"): {
+        "__init__": "(self, letters, rates)",
+        "execute": "(self, command)",
+        "undo": "(self)",
+        "contract": "(self, number)",
+        "certificate": "(self, number, owner)",
+        "least_fee": "(self, pipeline, kind)",
+        "accounts": None,
+        "terms": None,
+        "active": None,
+        "log": None,
+        "__len__": "(self)",
+        "__iter__": "(self)",
+        "__contains__": "(self, command)",
+    },
 }
 
 ERRORS = ["ExcerptError", "InvalidText", "InvalidPattern", "TooManyNodes", "InvalidPipeline", "TooComplex", "NotRead",
@@ -118,6 +181,19 @@ class Interface(unittest.TestCase):
                     self.assertEqual(found.__module__, module.__name__)
                     self.assertEqual(str(inspect.signature(found)), arguments)
 
+    def test_classes_define_their_methods_themselves(self):
+        for (module_name, name), methods in CLASSES.items():
+            found = getattr(importlib.import_module("excerptcheck." + module_name), name)
+            self.assertEqual(found.__module__, "excerptcheck." + module_name)
+            for method, arguments in methods.items():
+                with self.subTest((name, method)):
+                    defined = vars(found)[method]
+                    if arguments is None:
+                        self.assertIsInstance(defined, property)
+                        self.assertIsNone(defined.fset)
+                    else:
+                        self.assertEqual(str(inspect.signature(defined)), arguments)
+
     def test_errors_stand_in_their_own_file(self):
         module = importlib.import_module("excerptcheck.errors")
         for name in ERRORS:
@@ -125,7 +201,10 @@ class Interface(unittest.TestCase):
                 self.assertEqual(getattr(module, name).__module__, "excerptcheck.errors")
 
     def test_names_are_defined_by_def_and_class(self):
-        for module_name, functions in {**FUNCTIONS, "errors": ERRORS}.items():
+        listed = {module_name: list(functions) for module_name, functions in FUNCTIONS.items()} | {"errors": ERRORS}
+        for module_name, name in CLASSES:
+            listed.setdefault(module_name, []).append(name)
+        for module_name, functions in listed.items():
             tree = ast.parse((PACKAGE / (module_name + ".py")).read_text())
             defined = {part.name for part in tree.body if isinstance(part, (ast.FunctionDef, ast.ClassDef))}
             with self.subTest(module_name):
