@@ -2,12 +2,13 @@
 
 import unittest
 
+import test_house
 from excerptcheck import errors
 from excerptcheck.house import Clearinghouse
 from excerptcheck.journal import replayed
 from pipes import COPYING, FOURTH
 from samples import ALL, dice_for
-from test_house import COMMANDS, FREELY, HALF, RATES, THIRD, Runs, state
+from test_house import COMMANDS, FREELY, HALF, RATES, THIRD, state
 
 
 class Replayed(unittest.TestCase):
@@ -73,7 +74,7 @@ class Replayed(unittest.TestCase):
             replayed("a", (("B", 1),), log)
 
     def test_random_logs(self):
-        runs = Runs()
+        runs = test_house.Runs()
         for number in range(10):
             dice = dice_for(f"journal {number}")
             house = runs.run_once(dice, "ab", RATES, 40)[1]
