@@ -15,7 +15,8 @@ def first_read(starts, steps_of, is_goal, *, most=None):
     layer = [((), list(starts))]
     while layer:
         longer = []
-        for sequence, states in layer:
+        # A copy is walked: `layer` is another name of what the loop before extended.
+        for sequence, states in list(layer):
             if any([is_goal(state) for state in states]):
                 return sequence
             if len(sequence) != most:
